@@ -1,0 +1,1 @@
+"""Games with lots, and how little players can tell about them."""
