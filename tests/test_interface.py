@@ -5,7 +5,7 @@ import inspect
 import unittest
 
 from helpers import refused_at
-from tellsnone import errors, game, ratio
+from tellsnone import best, bounds, errors, game, players, ratio, running
 from tellsnone.errors import BadText
 from tellsnone.game import Game, game_text, read_game
 
@@ -13,6 +13,24 @@ CLASSES = {
     errors: ("PlayError", "BadText", "BadPaper", "BadCall", "BadPlayer", "BadStep", "BadBound", "TooLarge"),
     ratio: ("Ratio",),
     game: ("Game",),
+    running: ("Runner",),
+    bounds: ("Bound",),
+}
+METHODS = {
+    ratio.Ratio: ("__init__", "__add__", "__sub__", "__mul__", "__eq__", "__str__", "below"),
+    Game: ("__init__", "__eq__", "proc"),
+    running.Runner: ("__init__", "ends"),
+    bounds.Bound: ("__init__", "__eq__", "at", "plus", "within"),
+}
+FUNCTIONS = {
+    game: {"read_game": ["text", "asked"], "game_text": ["game"]},
+    running: {"first_state": ["game"]},
+    players: {"check_player": ["game", "player"], "calls_of": ["player"], "chance": ["game", "player"]},
+    best: {
+        "best_player": ["game", "other", "calls"], "apart": ["game", "other", "calls"],
+        "refuting_player": ["game", "other", "calls", "claim"],
+    },
+    bounds: {"nothing": []},
 }
 
 
@@ -27,22 +45,30 @@ class TestInterface(unittest.TestCase):
             for name in names:
                 self.assertTrue(inspect.isclass(vars(module)[name]))
                 self.assertEqual(vars(module)[name].__module__, module.__name__)
-        for function in (read_game, game_text):
-            self.assertEqual(function.__module__, game.__name__)
+        for module, functions in FUNCTIONS.items():
+            for name in functions:
+                self.assertTrue(inspect.isfunction(vars(module)[name]))
+                self.assertEqual(vars(module)[name].__module__, module.__name__)
 
     def test_methods_stand_in_their_classes(self):
-        for name in ("__init__", "__add__", "__sub__", "__mul__", "__eq__", "__str__", "below"):
-            self.assertTrue(inspect.isfunction(vars(ratio.Ratio)[name]))
-        for name in ("__init__", "__eq__", "proc"):
-            self.assertTrue(inspect.isfunction(vars(Game)[name]))
+        for kind, names in METHODS.items():
+            for name in names:
+                self.assertTrue(inspect.isfunction(vars(kind)[name]), (kind, name))
 
     def test_arguments(self):
         self.assertEqual(arguments(ratio.Ratio), ["num", "den"])
         self.assertEqual(arguments(ratio.Ratio.below), ["self", "other"])
         self.assertEqual(arguments(Game), ["variables", "tables", "lots", "procs"])
         self.assertEqual(arguments(Game.proc), ["self", "name"])
-        self.assertEqual(arguments(read_game), ["text", "asked"])
-        self.assertEqual(arguments(game_text), ["game"])
+        self.assertEqual(arguments(running.Runner), ["game"])
+        self.assertEqual(arguments(running.Runner.ends), ["self", "state", "procedure", "number"])
+        self.assertEqual(arguments(bounds.Bound), ["flat", "first", "more", "limit"])
+        self.assertEqual(arguments(bounds.Bound.at), ["self", "calls"])
+        self.assertEqual(arguments(bounds.Bound.plus), ["self", "other"])
+        self.assertEqual(arguments(bounds.Bound.within), ["self", "asks"])
+        for module, functions in FUNCTIONS.items():
+            for name, expected in functions.items():
+                self.assertEqual(arguments(vars(module)[name]), expected, name)
 
     def test_arguments_by_name(self):
         text = "proc p 1 1 x ask x r 1 answer x end"
@@ -51,6 +77,7 @@ class TestInterface(unittest.TestCase):
     def test_default_values(self):
         self.assertEqual(inspect.signature(ratio.Ratio).parameters["den"].default, 1)
         self.assertEqual(inspect.signature(read_game).parameters["asked"].default, ())
+        self.assertIsNone(inspect.signature(bounds.Bound).parameters["limit"].default)
 
     def test_bad_text_is_what_a_text_is_refused_with(self):
         for text in (" ", "var", "proc p 1 1 x answer y end", "\n"):

@@ -1,0 +1,152 @@
+"""A second way to run games, for comparison: each way of a call is run from its beginning, result by result."""
+
+from fractions import Fraction
+
+
+class Lacks(Exception):
+    """A result is to be drawn that has not been told."""
+
+
+class Machine:
+    """A run of one procedure with the results that are told; `odds` is the product of their numbers."""
+
+    def __init__(self, game, state, told):
+        self.game = game
+        self.told = list(told)
+        self.odds = 1
+        self.places = {("variable", row[0]): value for row, value in zip(game.variables, state[0])}
+        self.rows = {("table", row[0]): dict(rows) for row, rows in zip(game.tables, state[1])}
+        self.rows.update({("lots", row[0]): dict(rows) for row, rows in zip(game.lots, state[2])})
+        self.sizes = {("variable", row[0]): row[1] for row in game.variables}
+        self.sizes.update({("table", row[0]): row[1:] for row in game.tables})
+        self.sizes.update({("lots", row[0]): row[1:] for row in game.lots})
+        self.bad = state[3]
+
+    def state(self):
+        values = tuple(self.places["variable", row[0]] for row in self.game.variables)
+        tables = tuple(tuple(sorted(self.rows["table", row[0]].items())) for row in self.game.tables)
+        lots = tuple(tuple(sorted(self.rows["lots", row[0]].items())) for row in self.game.lots)
+        return (values, tables, lots, self.bad)
+
+    def drawn(self, many):
+        self.odds *= many
+        if not self.told:
+            raise Lacks(many)
+        return self.told.pop(0)
+
+    def value(self, part):
+        head = part[0]
+        if head == "number":
+            return part[1]
+        if head in ("local", "variable"):
+            return self.places[part]
+        if head in ("has", "cell"):
+            rows = self.rows["table", part[1]]
+            key = self.value(part[2]) % self.sizes["table", part[1]][0]
+            return int(key in rows) if head == "has" else rows.get(key, 0)
+        left, right = self.value(part[1]), self.value(part[2])
+        if head in ("/", "mod") and right == 0:
+            return 0
+        return {"+": lambda: (left + right) % 65536, "-": lambda: max(left - right, 0),
+                "*": lambda: left * right % 65536, "/": lambda: left // right, "mod": lambda: left % right,
+                "<": lambda: int(left < right), "=": lambda: int(left == right)}[head]()
+
+    def run(self, block):
+        for statement in block:
+            getattr(self, "do_" + statement[0])(*statement[1:])
+
+    def do_set(self, name, part):
+        self.places["variable", name] = self.value(part) % self.sizes["variable", name]
+
+    def do_let(self, name, part):
+        self.places["local", name] = self.value(part)
+
+    def do_draw(self, name, many):
+        self.places["local", name] = self.drawn(many)
+
+    def do_put(self, name, key, part):
+        keys, values = self.sizes["table", name]
+        self.rows["table", name][self.value(key) % keys] = self.value(part) % values
+
+    def do_lot(self, local, name, part):
+        keys, values = self.sizes["lots", name]
+        key = self.value(part) % keys
+        rows = self.rows["lots", name]
+        if key not in rows:
+            rows[key] = self.drawn(values)
+        self.places["local", local] = rows[key]
+
+    def do_if(self, test, first, second):
+        self.run(first if self.value(test) else second)
+
+    def do_bad(self):
+        self.bad = True
+
+    def do_after(self, block):
+        if self.bad:
+            self.run(block)
+
+
+def ways(game, state, procedure, number):
+    """The ways of a call: triples of a state, an answer and a chance, one for each way."""
+    _, size, answers, inner, block, result = game.proc(procedure)
+    found, open_ones = [], [()]
+    while open_ones:
+        told = open_ones.pop()
+        machine = Machine(game, state, told)
+        machine.places.update({("local", name): 0 for name in inner})
+        machine.places["local", inner[0]] = number % size
+        try:
+            machine.run(block)
+        except Lacks as lack:
+            open_ones.extend([(*told, each) for each in reversed(range(lack.args[0]))])
+            continue
+        found.append((machine.state(), machine.value(result) % answers, Fraction(1, machine.odds)))
+    return found
+
+
+def beginning(game):
+    """The state at the beginning."""
+    return (tuple(row[2] for row in game.variables), ((),) * len(game.tables), ((),) * len(game.lots), False)
+
+
+def chance(game, player, state=None, known=None):
+    """The chance that a player says yes from a state on; `known` keeps the ways of this game."""
+    state = beginning(game) if state is None else state
+    known = {} if known is None else known
+    if player[0] == "say":
+        return Fraction(int(player[1]))
+    if player[0] == "toss":
+        return sum([chance(game, part, state, known) for part in player[1]]) / Fraction(len(player[1]))
+    parts, call = dict(player[3]), (state, player[1], player[2])
+    if call not in known:
+        known[call] = ways(game, *call)
+    return sum([share * chance(game, parts[answer], end, known)
+                for end, answer, share in known[call] if answer in parts], Fraction(0))
+
+
+def all_players(game, calls):
+    """All players without tosses, of at most so many calls, with a part for each answer."""
+    found = [("say", False), ("say", True)]
+    if calls == 0:
+        return found
+    after = all_players(game, calls - 1)
+    for name, size, answers, *_ in game.procs:
+        for number in range(size):
+            for parts in choices(after, answers):
+                found.append(("ask", name, number, tuple(enumerate(parts))))
+    return found
+
+
+def choices(players, many):
+    """All tuples of so many players."""
+    if many == 0:
+        return [()]
+    return [(*rest, player) for rest in choices(players, many - 1) for player in players]
+
+
+def greatest_gain(game, other, calls):
+    """The greatest gain, by trying all players."""
+    ours, theirs = {}, {}
+    return max([chance(game, player, None, ours) - chance(other, player, None, theirs)
+                for player in all_players(game, calls)])
