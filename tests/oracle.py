@@ -87,21 +87,55 @@ class Machine:
             self.run(block)
 
 
+    def call(self, procedure, number):
+        """Runs a procedure from its beginning to its answer."""
+        _, size, answers, inner, block, result = self.game.proc(procedure)
+        self.places.update({("local", name): 0 for name in inner})
+        self.places["local", inner[0]] = number % size
+        self.run(block)
+        return self.value(result) % answers
+
+
+class Context(Machine):
+    """A run of one procedure of a context; a game stands beside it, with a state of its own."""
+
+    def __init__(self, context, state, told, game, inner):
+        super().__init__(context, state, told)
+        self.inner_game = game
+        self.inner_state = inner
+
+    def do_ask(self, local, procedure, part):
+        machine = Machine(self.inner_game, self.inner_state, ())
+        machine.told = self.told
+        self.places["local", local] = machine.call(procedure, self.value(part))
+        self.odds *= machine.odds
+        self.inner_state = machine.state()
+
+
 def ways(game, state, procedure, number):
     """The ways of a call: triples of a state, an answer and a chance, one for each way."""
-    _, size, answers, inner, block, result = game.proc(procedure)
+    found = followed(lambda told: Machine(game, state, told), procedure, number)
+    return [(machine.state(), answer, share) for machine, answer, share in found]
+
+
+def ways_around(context, game, states, procedure, number):
+    """The same for a context beside a game; the states are a pair of both."""
+    found = followed(lambda told: Context(context, states[0], told, game, states[1]), procedure, number)
+    return [((machine.state(), machine.inner_state), answer, share) for machine, answer, share in found]
+
+
+def followed(begin, procedure, number):
+    """Machines behind each way of a call, with their answers and chances; `begin` makes one with results to be told."""
     found, open_ones = [], [()]
     while open_ones:
         told = open_ones.pop()
-        machine = Machine(game, state, told)
-        machine.places.update({("local", name): 0 for name in inner})
-        machine.places["local", inner[0]] = number % size
+        machine = begin(told)
         try:
-            machine.run(block)
+            answer = machine.call(procedure, number)
         except Lacks as lack:
             open_ones.extend([(*told, each) for each in reversed(range(lack.args[0]))])
             continue
-        found.append((machine.state(), machine.value(result) % answers, Fraction(1, machine.odds)))
+        found.append((machine, answer, Fraction(1, machine.odds)))
     return found
 
 

@@ -5,7 +5,7 @@ import inspect
 import unittest
 
 from helpers import refused_at
-from tellsnone import best, bounds, errors, game, players, ratio, running
+from tellsnone import best, bounds, contexts, errors, game, players, ratio, running, spelling, until
 from tellsnone.errors import BadText
 from tellsnone.game import Game, game_text, read_game
 
@@ -31,6 +31,9 @@ FUNCTIONS = {
         "refuting_player": ["game", "other", "calls", "claim"],
     },
     bounds: {"nothing": []},
+    until: {"alike": ["game", "other"], "counted": ["game"]},
+    spelling: {"spell": ["game", "name"]},
+    contexts: {"asks": ["context"], "compose": ["context", "game"]},
 }
 
 
