@@ -24,8 +24,10 @@ def read_expression(words, meanings, tables, depth=1):
 
 
 def expression_words(expression):
-    """The words of an expression of a game."""
+    """The words of an expression of a game or a tactic."""
     head = expression[0]
+    if len(expression) == 1:
+        return [head]
     if head == "number":
         return [str(expression[1])]
     if head in ("local", "variable"):

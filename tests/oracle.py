@@ -184,3 +184,37 @@ def greatest_gain(game, other, calls):
     ours, theirs = {}, {}
     return max([chance(game, player, None, ours) - chance(other, player, None, theirs)
                 for player in all_players(game, calls)])
+
+
+def told_value(part, told):
+    """The value of an expression of a tactic that knows these numbers."""
+    if part[0] == "number":
+        return part[1]
+    if len(part) == 1:
+        return told[part[0]]
+    left, right = told_value(part[1], told), told_value(part[2], told)
+    return {"+": (left + right) % 65536, "-": max(left - right, 0), "*": left * right % 65536,
+            "/": right and left // right, "mod": right and left % right, "<": int(left < right),
+            "=": int(left == right)}[part[0]]
+
+
+def tactic_chance(game, rules, calls, state=None, told=None, known=None):
+    """The chance that a tactic says yes, following each way of each call by itself."""
+    state = beginning(game) if state is None else state
+    told = {"last": 0, "made": 0, "kept": 0} if told is None else told
+    known = {} if known is None else known
+    for test, deed, keep in rules:
+        if told_value(test, told) == 0:
+            continue
+        if deed[0] == "say":
+            return Fraction(int(told_value(deed[1], told) != 0))
+        if told["made"] == calls:
+            return Fraction(0)
+        call = (state, deed[1], told_value(deed[2], told))
+        kept = told_value(keep, told)
+        if call not in known:
+            known[call] = ways(game, *call)
+        return sum([share * tactic_chance(game, rules, calls, end,
+                                          {"last": answer, "made": told["made"] + 1, "kept": kept}, known)
+                    for end, answer, share in known[call]], Fraction(0))
+    return Fraction(0)

@@ -103,11 +103,13 @@ class PlayerMaker:
         return (self.random.choice(OPERATORS), self.expression(depth - 1), self.expression(depth - 1))
 
     def rules(self, most):
-        """The rules of a tactic."""
+        """The rules of a tactic, which mostly asks first and then says something of what it knows."""
         found = []
-        for _ in range(self.random.randint(1, most)):
-            deed = ("say", self.expression(2))
-            if self.random.randrange(3):
-                deed = ("ask", self.random.choice(self.faces)[0], self.expression(2))
-            found.append((self.expression(2), deed, self.expression(2)))
-        return tuple(found)
+        for at in range(self.random.randint(1, most)):
+            test = self.random.choice([self.expression(2), ("<", ("made",), ("number", self.random.randint(1, 3)))])
+            deed = ("ask", self.random.choice(self.faces)[0], self.expression(2))
+            if self.random.randrange(3) == 0:
+                deed, test = ("say", self.expression(2)), self.expression(2)
+            found.append((test, deed, self.expression(2)))
+        end = self.random.choice([("<", ("last",), ("kept",)), ("mod", ("+", ("last",), ("kept",)), ("number", 2)), ("last",)])
+        return (*found, (("number", 1), ("say", end), ("number", 0)))

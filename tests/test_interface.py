@@ -5,7 +5,8 @@ import inspect
 import unittest
 
 from helpers import refused_at
-from tellsnone import best, bounds, contexts, errors, game, players, ratio, running, spelling, until
+from tellsnone import best, bounds, contexts, derivation, errors, game, papers, players, playertext, ratio, running
+from tellsnone import spelling, tactics, until
 from tellsnone.errors import BadText
 from tellsnone.game import Game, game_text, read_game
 
@@ -15,12 +16,16 @@ CLASSES = {
     game: ("Game",),
     running: ("Runner",),
     bounds: ("Bound",),
+    derivation: ("Derivation",),
+    tactics: ("Tactic",),
 }
 METHODS = {
     ratio.Ratio: ("__init__", "__add__", "__sub__", "__mul__", "__eq__", "__str__", "below"),
     Game: ("__init__", "__eq__", "proc"),
     running.Runner: ("__init__", "ends"),
     bounds.Bound: ("__init__", "__eq__", "at", "plus", "within"),
+    derivation.Derivation: ("__init__", "step"),
+    tactics.Tactic: ("__init__", "__eq__"),
 }
 FUNCTIONS = {
     game: {"read_game": ["text", "asked"], "game_text": ["game"]},
@@ -34,6 +39,15 @@ FUNCTIONS = {
     until: {"alike": ["game", "other"], "counted": ["game"]},
     spelling: {"spell": ["game", "name"]},
     contexts: {"asks": ["context"], "compose": ["context", "game"]},
+    derivation: {"same": ["game", "step"]},
+    playertext: {"read_player": ["text"], "player_text": ["player"]},
+    tactics: {
+        "read_tactic": ["text"], "tactic_text": ["tactic"], "chance_of": ["game", "tactic", "calls"],
+        "player_of": ["game", "tactic", "calls"],
+    },
+    papers: {
+        "paper_lines": ["first", "steps"], "read_paper": ["lines"], "judged": ["lines"], "derived": ["first", "steps"],
+    },
 }
 
 
@@ -69,6 +83,9 @@ class TestInterface(unittest.TestCase):
         self.assertEqual(arguments(bounds.Bound.at), ["self", "calls"])
         self.assertEqual(arguments(bounds.Bound.plus), ["self", "other"])
         self.assertEqual(arguments(bounds.Bound.within), ["self", "asks"])
+        self.assertEqual(arguments(derivation.Derivation), ["game"])
+        self.assertEqual(arguments(derivation.Derivation.step), ["self", "step"])
+        self.assertEqual(arguments(tactics.Tactic), ["rules"])
         for module, functions in FUNCTIONS.items():
             for name, expected in functions.items():
                 self.assertEqual(arguments(vars(module)[name]), expected, name)
