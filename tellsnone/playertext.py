@@ -32,9 +32,12 @@ def read_parts(words, left):
     many = words.number(0, MOST_PARTS)
     found = {}
     for _ in range(many):
-        answer = int(words.one_of([str(answer) for answer in range(MOST_PARTS) if answer not in found]))
-        found[answer] = read_below(words, left)
-    return tuple(found.items())
+        word = words.ahead()
+        if word in found:
+            words.refuse()
+        answer = words.number(0, MOST_PARTS - 1)
+        found[word] = (answer, read_below(words, left))
+    return tuple(found.values())
 
 
 def player_text(player):

@@ -110,17 +110,26 @@ def chance_of(game, tactic, calls):
     beliefs = {(0, 0): first_belief(game)}
     made = 0
     while beliefs:
-        behind = {}
+        asked = {}
         for (last, kept), belief in beliefs.items():
             deed = Memo(last, made, kept).deed(tactic, calls)
             if deed[0] == "ask":
-                for answer, part in behind_answers(runner, belief, deed[1], deed[2]).items():
-                    behind.setdefault((answer, deed[3]), []).append(part)
+                asked.setdefault(deed, []).append(belief)
             elif deed[1]:
                 found = found + whole(belief)
-        beliefs = {known: together(behind[known]) for known in behind}
+        beliefs = behind_deeds(runner, asked)
         made += 1
     return found
+
+
+def behind_deeds(runner, asked):
+    """The beliefs behind questions, by the answer and the number that is kept; `asked` has those in front of each."""
+    behind = {}
+    for deed, beliefs in asked.items():
+        _, procedure, number, kept = deed
+        for answer, belief in behind_answers(runner, together(beliefs), procedure, number).items():
+            behind.setdefault((answer, kept), []).append(belief)
+    return {known: together(behind[known]) for known in behind}
 
 
 def player_of(game, tactic, calls):

@@ -63,8 +63,10 @@ def with_own_expressions(statement, change):
         return (word, change(test), first, second)
     if word == "after":
         return statement
-    parts = zip(FORMS[word], statement[1:])
-    return (word, *[change(part) if kind == "expression" else part for kind, part in parts])
+    found = [word]
+    for kind, part in zip(FORMS[word], statement[1:]):
+        found.append(change(part) if kind == "expression" else part)
+    return tuple(found)
 
 
 def changed_block(block, change):

@@ -83,6 +83,14 @@ class TestEqual(Case):
         for part in ("0", "x", "a", "cell t x"):
             self.refuse(one(f"draw y 5 if = {part} y bad end"))
 
+    def test_other_operators(self):
+        for sign in ("+", "-", "*", "/", "mod", "<"):
+            for part in ("0", "x", "a"):
+                self.refuse(one(f"draw y 5 if {sign} y {part} bad end"))
+                self.refuse(one(f"draw y 5 if {sign} {part} y bad end"))
+            self.refuse(one(f"draw y 5 if {sign} = y x 0 bad end"))
+            self.refuse(one(f"draw y 5 if = + y 0 {sign} x 1 bad end"))
+
     def test_a_variable_and_a_table_are_no_locals(self):
         text = "var y 9 0 table z 4 4 lots x 2 2 proc p 1 1 x local z draw z 4 if {} bad end answer 0 end"
         self.check(text.format("= z y"), Fraction(1, 4))

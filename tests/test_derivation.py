@@ -222,6 +222,11 @@ class TestReckon(Case):
             for calls in (0, 1, 8):
                 self.refused(derivation, ("reckon", read_game(other), calls))
 
+    def test_numbers_beyond_the_limits(self):
+        """A point limits q, but names no error for more; a bound with a negative limit there cannot be."""
+        self.taken(Derivation(read_game(COIN)), ("reckon", read_game(ONE), 9), read_game(ONE), bound(Fraction(511, 512), 0, 0, 9))
+        self.refused(Derivation(read_game(COIN)), ("reckon", read_game(ONE), -1))
+
     def test_another_face_comes_ahead_of_what_is_too_large(self):
         self.refused(Derivation(read_game(HUGE)), ("reckon", read_game(HUGE.replace("1 2", "1 3")), 2))
 
