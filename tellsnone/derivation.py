@@ -84,6 +84,6 @@ def behind_reckon(game, step):
 def behind_inside(game, step):
     """The same for a step from a context around the first game of another derivation to it around the last one."""
     _, context, other = step
-    if not compose(context, other.first) == game:
+    if compose(context, other.first) != game:
         raise BadStep("inside")
     return compose(context, other.last), other.bound.within(asks(context))

@@ -191,7 +191,7 @@ def read_step(line):
 def read_plain(line):
     """The step that nobody can notice that a line writes."""
     words = Words(line)
-    rule = words.one_of(LINES)
+    rule = words.one_of(list(LINES))
     parts = [read_part(words, kind) for kind in LINES[rule]]
     words.finish()
     return (rule, *parts)

@@ -58,9 +58,29 @@ def check_ask(game, player):
 
 
 def calls_of(player):
-    """The greatest number of calls on a way through a player."""
-    most = max([calls_of(part) for part in next_players(player)], default=0)
-    return most + 1 if player[0] == "ask" else most
+    """The greatest number of calls on a way through a player.
+
+    The players of tactics may be very deep, so the calls are followed one after the other.
+    """
+    calls = 0
+    asking = next_questions([player])
+    while asking:
+        calls += 1
+        asking = next_questions([part for each in asking for part in next_players(each)])
+    return calls
+
+
+def next_questions(players):
+    """The questions with which players begin, perhaps behind tosses."""
+    found = []
+    left = list(players)
+    while left:
+        player = left.pop()
+        if player[0] == "ask":
+            found.append(player)
+        else:
+            left.extend(next_players(player))
+    return found
 
 
 def chance(game, player):

@@ -91,14 +91,17 @@ class Memo:
         This is `("say", answer)`, or `("ask", procedure, number, kept)` with the number that is kept from then on.
         """
         for test, deed, keep in tactic.rules:
-            if self.value(test) == 0:
-                continue
-            if deed[0] == "say":
-                return ("say", self.value(deed[1]) != 0)
-            if self.made < calls:
-                return ("ask", deed[1], self.value(deed[2]), self.value(keep))
-            break
+            if self.value(test) != 0:
+                return self.worked_out(deed, keep, calls)
         return ("say", False)
+
+    def worked_out(self, deed, keep, calls):
+        """What a rule that counts tells the tactic to do."""
+        if deed[0] == "say":
+            return ("say", self.value(deed[1]) != 0)
+        if self.made >= calls:
+            return ("say", False)
+        return ("ask", deed[1], self.value(deed[2]), self.value(keep))
 
 
 def chance_of(game, tactic, calls):

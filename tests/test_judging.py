@@ -3,6 +3,7 @@
 import copy
 import unittest
 from fractions import Fraction
+from random import Random
 
 from helpers import fraction
 from tellsnone.bounds import nothing
@@ -232,6 +233,67 @@ class TestTooLarge(Case):
             with self.assertRaises(TooLarge) as caught:
                 derived(read_game(WIDE), steps)
             self.assertEqual(caught.exception.what, "looks")
+
+
+class TestChangedLines(unittest.TestCase):
+    """Papers in which a word or a line was changed by chance: only BadPaper comes, and judging is never laxer than reading."""
+
+    def papers(self):
+        context = asking("ask u p 1")
+        text = "table t 4 1 proc p 1 2 x local y local z {}draw y 4 if has t y bad end put t x 0 after {} end " \
+               "answer x end"
+        one, other, more = text.format("", "let x 1"), text.format("", "bad"), text.format("let z 0 ", "bad")
+        inner = [f"game {one}", f"until {other}", "swap p 2", f"back swap p 2 = {other}", f"back drop p 0 = {more}", "drop p 0",
+                 f"reckon 1 {other}"]
+        return [[f"game {around(context, one)}", "open", *inner, f"close {context}", f"until {around(context, other)}"],
+                ["game table t 4 1", "open", "game table t 4 1", "fold", "open", *inner, "close ", "reckon 8 table t 4 1", "close ",
+                 "back erase variable a = var a 1 0 table t 4 1"]]
+
+    def told(self, function, lines):
+        try:
+            return function(lines)
+        except BadPaper as wrong:
+            return wrong.at
+
+    def check(self, lines):
+        read, found = self.told(read_paper, lines), self.told(judged, lines)
+        if isinstance(read, int):
+            self.assertIsInstance(found, int, lines)
+            self.assertLessEqual(found, read, lines)
+            return 1
+        try:
+            self.assertEqual(known(derived(*read)), known(found))
+        except BadStep:
+            self.assertIsInstance(found, int, lines)
+            return 1
+        return 0
+
+    def test_changed_words_and_lines(self):
+        random, refused = Random(5), 0
+        spare = ["p", "0", "1", "fold", "drop", "=", "", "end", "x", "t", "if", "close", "open", "game", "until", "back", "64", "65536"]
+        for _ in range(400):
+            lines = random.choice(self.papers())
+            at = random.randrange(len(lines))
+            words = lines[at].split(" ")
+            k = random.randrange(len(words))
+            pick = random.randrange(6)
+            if pick == 0:
+                words[k] = random.choice(spare)
+            elif pick == 1:
+                words.insert(k, random.choice(spare))
+            elif pick == 2:
+                del words[k]
+            lines[at] = " ".join(words)
+            if pick == 3:
+                del lines[at]
+            elif pick == 4:
+                lines.insert(at, random.choice(lines))
+            elif pick == 5:
+                other = random.randrange(len(lines))
+                lines[at], lines[other] = lines[other], lines[at]
+            refused += self.check(lines)
+        self.assertGreater(refused, 200)
+        self.assertEqual([self.check(lines) for lines in self.papers()], [0, 0])
 
 
 class TestDerived(unittest.TestCase):

@@ -121,6 +121,7 @@ class TestSizes(Case):
         game = "proc p 1 1 x answer 0 end"
         for calls in (0, 1, 8, 9, 500, 1998, 1999):
             player = self.sized(game, "when 1 ask p made 0", calls, calls + 1)
+            self.assertEqual(calls_of(player), calls)
             for at in range(calls):
                 self.assertEqual(player[:3], ("ask", "p", at))
                 ((answer, player),) = player[3]
@@ -130,6 +131,15 @@ class TestSizes(Case):
             self.too_large(game, "when 1 ask p made 0", calls)
         self.sized(game, "when < made 1999 ask p 0 0 when 1 say 1 0", 10 ** 9, 2000)
         self.too_large(game, "when < made 2000 ask p 0 0 when 1 say 1 0", 10 ** 9)
+
+    def test_players_that_are_too_deep_for_a_game(self):
+        game = read_game("proc p 1 1 x answer 0 end")
+        for calls in (9, 10, 1999):
+            player = player_of(game, read_tactic("when 1 ask p made 0"), calls)
+            for function in (check_player, chance):
+                with self.assertRaises(BadPlayer):
+                    function(game, player)
+        check_player(game, player_of(game, read_tactic("when 1 ask p made 0"), 8))
 
     def test_trees(self):
         self.sized(COIN, "when 1 ask p 0 0", 9, 1023)
