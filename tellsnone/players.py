@@ -7,24 +7,29 @@ from tellsnone.running import Runner
 
 DEEPEST_PLAYER = 8
 MOST_TOSSED = 16
+# Comparing players recurses as deep as both of them are, and those of tactics may be deeper than Python's recursion.
+DEEPEST_COMPARED = 50
 
 
-def different(players):
-    """Each of some players once. Players are often built of few parts, which need not be followed again and again."""
-    found = []
-    for player in players:
-        if player not in found:
-            found.append(player)
-    return found
+def parts_of(player):
+    """The players as which a player can go on."""
+    if player[0] == "ask":
+        return [part[1] for part in player[3]]
+    if player[0] == "toss":
+        return list(player[1])
+    return []
 
 
 def next_players(player):
-    """The players as which a player can go on, each once."""
-    if player[0] == "ask":
-        return different([part[1] for part in player[3]])
-    if player[0] == "toss":
-        return different(player[1])
-    return []
+    """The players as which a player that is not deep can go on, each once.
+
+    Players are often built of few parts, which need not be followed again and again.
+    """
+    found = []
+    for part in parts_of(player):
+        if part not in found:
+            found.append(part)
+    return found
 
 
 def check_player(game, player):
@@ -42,8 +47,12 @@ def check_below(game, player, left):
         check_ask(game, player)
     elif not 1 <= len(player[1]) <= MOST_TOSSED:
         raise BadPlayer("no or too many players in a toss")
-    for part in next_players(player):
-        check_below(game, part, left - 1)
+    fitting = []
+    for part in parts_of(player):
+        # Parts that fit are not deep, so any part can be compared with them.
+        if part not in fitting:
+            check_below(game, part, left - 1)
+            fitting.append(part)
 
 
 def check_ask(game, player):
@@ -60,27 +69,41 @@ def check_ask(game, player):
 def calls_of(player):
     """The greatest number of calls on a way through a player.
 
-    The players of tactics may be very deep, so the calls are followed one after the other.
+    Where a player is deep, its parts are followed one by one, without comparing them.
     """
-    calls = 0
-    asking = next_questions([player])
-    while asking:
-        calls += 1
-        asking = next_questions([part for each in asking for part in next_players(each)])
-    return calls
-
-
-def next_questions(players):
-    """The questions with which players begin, perhaps behind tosses."""
-    found = []
-    left = list(players)
-    while left:
-        player = left.pop()
-        if player[0] == "ask":
-            found.append(player)
+    most = 0
+    waiting = [(player, 0)]
+    while waiting:
+        part, made = waiting.pop()
+        calls = calls_within(part, DEEPEST_COMPARED)
+        if calls is None:
+            waiting.extend([(each, made + own_calls(part)) for each in parts_of(part)])
         else:
-            left.extend(next_players(player))
-    return found
+            most = max(most, made + calls)
+    return most
+
+
+def calls_within(player, left):
+    """The calls of a player, or None if more than `left` calls and tosses stand one after the other in it."""
+    if player[0] == "say":
+        return 0
+    if left == 0:
+        return None
+    most = 0
+    followed = []
+    for part in parts_of(player):
+        if part not in followed:
+            calls = calls_within(part, left - 1)
+            if calls is None:
+                return None
+            most = max(most, calls)
+            followed.append(part)
+    return most + own_calls(player)
+
+
+def own_calls(player):
+    """The number of calls that a player makes before it goes on as another one."""
+    return 1 if player[0] == "ask" else 0
 
 
 def chance(game, player):

@@ -50,7 +50,7 @@ def counted_proc(game, block, puts):
     first = Ratio(0)
     more = Ratio(0)
     for at, statement in enumerate(block):
-        if bads_in((statement,)) == 0:
+        if not has_bad((statement,)):
             continue
         table, many = guard(game, block, at)
         if table is None:
@@ -61,9 +61,9 @@ def counted_proc(game, block, puts):
     return first, more
 
 
-def bads_in(block):
-    """The number of `bad` statements, inner ones included."""
-    return len([part for part in every_statement(block) if part[0] == "bad"])
+def has_bad(block):
+    """Whether a `bad` stands among statements, inner ones included."""
+    return ("bad",) in every_statement(block)
 
 
 def guard(game, block, at):
@@ -72,8 +72,8 @@ def guard(game, block, at):
     if statement[0] != "if" or at == 0 or block[at - 1][0] != "draw":
         raise BadStep("until")
     _, local, many = block[at - 1]
-    _, test, first, _ = statement
-    if first.count(("bad",)) < bads_in((statement,)):
+    _, test, _, second = statement
+    if has_bad(second):
         raise BadStep("until")
     if test[0] == "has" and test[2] == ("local", local) and (test[1], many) in keys_of(game):
         return test[1], many

@@ -182,5 +182,59 @@ class TestCalls(unittest.TestCase):
             self.assertEqual(calls_of(("toss", (YES, player))), calls)
 
 
+def chain(calls, last=YES):
+    """So many questions one after the other, and what stands at their end; each one is built anew."""
+    player = last
+    for at in range(calls):
+        player = asked(at, (0, player))
+    return player
+
+
+def tossing(calls):
+    """So many questions one after the other, each one behind a toss."""
+    player = YES
+    for at in range(calls):
+        player = ("toss", (NO, asked(at, (0, player))))
+    return player
+
+
+class TestCallsOfDeepPlayers(unittest.TestCase):
+    """Players of tactics may be deeper than Python's recursion, and equal ones may stand beside each other."""
+
+    def test_around_all_depths(self):
+        for calls in [*range(1, 120), 332, 333, 334, 340, 500, 998, 999, 1000, 1999]:
+            self.assertEqual(calls_of(chain(calls)), calls)
+            self.assertEqual(calls_of(asked(0, (0, chain(calls)), (1, chain(calls)))), calls + 1)
+            self.assertEqual(calls_of(tossing(calls)), calls)
+
+    def test_equal_ones_beside_each_other(self):
+        for calls in (49, 50, 51, 340, 900):
+            self.assertEqual(calls_of(("toss", tuple([chain(calls) for _ in range(4)]))), calls)
+            self.assertEqual(calls_of(("toss", (tossing(calls), tossing(calls)))), calls)
+            self.assertEqual(calls_of(asked(0, (0, YES), (1, chain(calls)), (2, NO), (3, chain(calls)))), calls + 1)
+
+    def test_beside_longer_and_shorter_ones(self):
+        for calls in (49, 50, 51, 340, 900):
+            for others in ((calls - 1, calls), (calls, calls - 1), (calls, 1), (1, calls), (0, calls, 0, calls - 1)):
+                self.assertEqual(calls_of(("toss", tuple([chain(many) for many in others]))), calls)
+
+    def test_different_ones_with_equal_beginnings(self):
+        self.assertEqual(calls_of(("toss", (chain(900, YES), chain(900, NO), chain(900, asked(7)), chain(900)))), 901)
+
+    def test_wide_players_of_few_parts_in_deep_ones(self):
+        wide = YES
+        for _ in range(30):
+            wide = asked(0, *[(answer, wide) for answer in range(64)])
+        self.assertEqual(calls_of(wide), 30)
+        self.assertEqual(calls_of(chain(500, wide)), 530)
+        self.assertEqual(calls_of(("toss", (chain(500, wide), wide, chain(2, wide)))), 530)
+
+    def test_a_question_on_each_side(self):
+        player = YES
+        for at in range(900):
+            player = asked(at, (0, chain(3)), (1, player), (2, chain(3)))
+        self.assertEqual(calls_of(player), 903)
+
+
 if __name__ == "__main__":
     unittest.main()

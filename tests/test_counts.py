@@ -170,18 +170,44 @@ class TestPlaces(Case):
             self.check(one(f"draw y 4 if = y x {block} else let x 1 end"), Fraction(1, 4))
             self.check(one(f"put t 0 0 draw y 4 if has t y {block} end"), Fraction(1, 4), Fraction(1, 4))
 
+    def test_deeper_within_the_first_part(self):
+        """Such an `if` counts once, however many bads stand in its first part and however deep."""
+        for block in ("if x bad end", "if x else bad end", "if x bad else bad end", "if 1 bad end", "bad if x bad end",
+                      "if x else bad end bad", "if x let x 1 if z bad bad end else if z else let x 2 bad end end",
+                      "if x if x if x if x if x bad end end end end end", "draw y 4 if = y x bad end",
+                      "draw y 5 if = y y bad end", "draw z 3 if has s z bad end if has s x bad end",
+                      "if x after bad end bad end", "if y bad end if y bad end if y bad end"):
+            for second in ("", "else let x 1 ", "else if x let x 1 end after if x bad end end "):
+                self.check(one(f"draw y 4 if = y x {block} {second}end"), Fraction(1, 4))
+                self.check(one(f"put t 0 0 draw y 4 if has t y {block} {second}end"), Fraction(1, 4), Fraction(1, 4))
+
+    def test_deeper_bads_of_several_ifs(self):
+        self.check(one("draw y 2 if = y x if z bad end end draw y 3 if = y x if z else bad end end"), Fraction(5, 6))
+        self.check(one("put t 0 0 draw y 4 if has t y if x put t 1 1 bad end end draw z 3 if = z y if x bad end end"),
+                   Fraction(1, 4) + Fraction(1, 3), Fraction(2, 4))
+        self.check(many("draw y 4 if = y x if z bad end end", "draw y 3 if = y x bad if z bad end end"), Fraction(1, 3))
+        self.refuse(many("draw y 4 if = y x if z bad end end", "if z bad end"))
+        self.refuse(one("draw y 2 if = y x if z bad end end if = y z bad end"))
+
+    def test_deeper_bads_behind_other_tests(self):
+        for drawn, test in (("draw y 4", "has s y"), ("draw y 4", "= y y"), ("draw y 4", "= x y"), ("draw z 4", "= y x"),
+                            ("draw y 4 let z 1", "= y x"), ("let y 1", "= y x"), ("draw y 5", "has t y")):
+            self.refuse(one(f"{drawn} if {test} if x bad end end"))
+            self.refuse(one(f"{drawn} if {test} if x else bad end end"))
+
     def test_other_places(self):
         for test in ("has t y", "= y x"):
             self.refuse(one(f"draw y 4 if {test} else bad end"))
             self.refuse(one(f"draw y 4 if {test} bad else bad end"))
             self.refuse(one(f"draw y 4 if {test} bad else if x bad end end"))
-            self.refuse(one(f"draw y 4 if {test} if x bad end end"))
-            self.refuse(one(f"draw y 4 if {test} bad if x bad end end"))
-            self.refuse(one(f"draw y 4 if {test} if x else bad end bad end"))
+            self.refuse(one(f"draw y 4 if {test} bad else if x else bad end end"))
+            self.refuse(one(f"draw y 4 if {test} else if x if x bad end end end"))
+            self.refuse(one(f"draw y 4 if {test} if x bad end else draw y 4 if {test} bad end end"))
             self.refuse(one(f"if x draw y 4 if {test} bad end end"))
             self.refuse(one(f"if x else draw y 4 if {test} bad end end"))
-            self.refuse(one(f"draw y 4 if {test} draw y 4 if {test} bad end end"))
+            self.refuse(one(f"if x draw y 4 if {test} if x bad end end end"))
             self.refuse(one(f"draw y 4 if {test} end bad"))
+            self.refuse(one(f"draw y 4 if {test} if x bad end end bad"))
             self.refuse(one(f"draw y 4 if {test} bad end bad"))
             self.refuse(one(f"bad draw y 4 if {test} bad end"))
         for block in ("bad", "draw y 4 bad", "if x bad end", "if x else bad end", "let y 1 bad", "put t 0 0 bad"):

@@ -172,7 +172,8 @@ class TestUntil(Case):
 
     def test_games_that_are_alike(self):
         for statements, added in ((HIT, bound(0, 0, Fraction(1, 4))), ("put t 0 0 " + HIT, bound(0, Fraction(1, 4), Fraction(2, 4))),
-                                  ("draw y 5 if = y x bad end", bound(0, Fraction(1, 5))), ("", nothing())):
+                                  ("draw y 5 if = y x bad end", bound(0, Fraction(1, 5))), ("", nothing()),
+                                  ("draw y 5 if = y x if 1 bad else if a bad end end end", bound(0, Fraction(1, 5)))):
             game = read_game(game_with(" ".join([*statements.split(), "after let x 1 end"])))
             other = read_game(game_with(" ".join([*statements.split(), "after set a x bad end"])))
             derivation = Derivation(game)
@@ -192,7 +193,7 @@ class TestUntil(Case):
 
     def test_games_without_a_count(self):
         for statements in ("bad", "draw y 4 if = y y bad end", "draw y 4 let z 1 if has t y bad end", "if x bad end",
-                           "draw y 5 if has t y bad end"):
+                           "draw y 5 if has t y bad end", "draw y 4 if = y x if a bad end else if a bad end end"):
             game = read_game(game_with(statements + " after end"))
             other = read_game(game_with(statements + " after let x 1 end"))
             self.refused(Derivation(game), ("until", other))

@@ -32,7 +32,10 @@ class QuietMaker(Maker):
         test = ("has", name, ("local", local))
         if self.random.randrange(3) == 0:
             many, test = 4, ("=", ("local", local), ("variable", "a"))
-        return (("draw", local, many), ("if", test, (("bad",), *self.block(("x", "y"), 1, 0)), ()))
+        bad = ("bad",)
+        if self.random.randrange(3) == 0:
+            bad = ("if", self.expression(("x", "y", "z"), 1), *self.random.choice((((bad,), ()), ((), (bad,)))))
+        return (("draw", local, many), ("if", test, (bad, *self.block(("x", "y"), 1, 0)), ()))
 
     def proc(self, face):
         *parts, block, result = super().proc(face)
@@ -246,6 +249,17 @@ class TestKnownDerivations(Case):
         derivation.step(("until", read_game(text.format(0))))
         found = self.differences(derivation, ("ask", "p", 0, ((1, ("say", True)),)), (Fraction(1, 5), 0))
         self.assertEqual(found, fraction(derivation.bound.at(1)))
+
+    def test_until_is_reached_by_deeper_bads(self):
+        """However many bads stand in the first part, and however deep, they come only if its test holds."""
+        text = "proc p 2 2 x local y draw y 5 if = y 3 if x bad else if 1 bad bad end end end let y 0 " \
+               "after let y {} end answer y end"
+        derivation = Derivation(read_game(text.format(1)))
+        derivation.step(("until", read_game(text.format(0))))
+        self.assertEqual((fraction(derivation.bound.first), fraction(derivation.bound.more)), (Fraction(1, 5), 0))
+        for number in (0, 1):
+            found = self.differences(derivation, ("ask", "p", number, ((1, ("say", True)),)), (Fraction(1, 5), 0))
+            self.assertEqual(found, fraction(derivation.bound.at(1)))
 
     def test_a_tactic_reaches_it(self):
         text = "table t 64 1 proc p 1 2 x draw x 64 if has t x bad end put t x 0 let x 0 {} answer x end"

@@ -119,6 +119,17 @@ class TestDepth(unittest.TestCase):
         self.assertFalse(fits(line(["ask"] * 30, YES)))
         self.assertFalse(fits(line(["toss"] * 30, YES)))
 
+    def test_hundreds(self):
+        """Equal players beside each other that are so deep cannot be compared by Python's recursion."""
+        for many in (9, 49, 50, 51, 332, 333, 334, 340, 900, 1999):
+            deep = [line(words * many, end) for words in (["ask"], ["toss"], ["ask", "toss"]) for end in (YES, YES, NO)]
+            for function in (check_player, chance):
+                for player in (deep[0], ("toss", tuple(deep)), ("ask", "p", 0, tuple(enumerate(deep))),
+                               ("toss", (YES, ("ask", "p", 0, ((0, NO), (1, deep[0]), (2, deep[1]))))),
+                               ("ask", "p", 0, ((0, ("toss", (deep[3], deep[4], YES))), (1, YES)))):
+                    with self.assertRaises(BadPlayer):
+                        function(GAME, player)
+
     def test_beside_short_ones(self):
         eight, nine = line(["ask"] * 8, YES), line(["ask"] * 9, YES)
         self.assertTrue(fits(("ask", "p", 0, ((0, YES), (1, eight[3][0][1]), (2, NO)))))

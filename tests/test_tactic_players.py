@@ -141,6 +141,26 @@ class TestSizes(Case):
                     function(game, player)
         check_player(game, player_of(game, read_tactic("when 1 ask p made 0"), 8))
 
+    def test_equal_chains_behind_a_question(self):
+        game = read_game("proc p 1 2 x draw x 2 answer x end proc r 1 1 y answer 0 end")
+        tactic = read_tactic("when = made 0 ask p 0 0 when 1 ask r 0 0")
+        for calls in (2, 50, 51, 52, 332, 333, 334, 340, 900, 998, 999):
+            player = player_of(game, tactic, calls)
+            self.assertEqual(many_players(player), 2 * calls + 1)
+            self.assertEqual(calls_of(player), calls)
+            if calls > 8:
+                for function in (check_player, chance):
+                    with self.assertRaises(BadPlayer):
+                        function(game, player)
+
+    def test_questions_among_chains(self):
+        game = read_game("proc p 1 2 x draw x 2 answer x end proc r 1 1 y answer 0 end")
+        for at, calls, many in ((300, 800, 1301), (600, 900, 1201), (1, 998, 1996)):
+            player = player_of(game, read_tactic(f"when = made {at} ask p 0 0 when 1 ask r 0 0"), calls)
+            self.assertEqual((calls_of(player), many_players(player)), (calls, many))
+        player = player_of(game, read_tactic("when < 0 last say 1 0 when 1 ask p 0 0"), 900)
+        self.assertEqual((calls_of(player), many_players(player)), (900, 1801))
+
     def test_trees(self):
         self.sized(COIN, "when 1 ask p 0 0", 9, 1023)
         self.too_large(COIN, "when 1 ask p 0 0", 10)
